@@ -1,0 +1,1 @@
+"""Neighbours in common: questions about a graph of up to 64 points."""
