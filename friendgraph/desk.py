@@ -1,6 +1,7 @@
 """The desk: calls come in as one list of whole numbers, answers go out as another."""
 
 from friendgraph.graph import Graph
+from friendgraph.passing import passes
 
 BEGIN = 0
 SIZE = 1
@@ -8,9 +9,16 @@ EDGE = 2
 ROWS = 3
 ROW = 4
 COMMON = 5
+STRONG = 6
+PASS = 7
+FAR = 8
+WIDE = 9
+GIRTH = 10
+SWITCH = 11
+TURN = 12
 
 # By a call's number: how many whole numbers stand behind it. Rows (3) is missing, as its list tells its own length.
-HANDED = {0: 0, 1: 1, 2: 3, 4: 1, 5: 2, 6: 0}
+HANDED = {0: 0, 1: 1, 2: 3, 4: 1, 5: 2, 6: 0, 7: 4, 8: 2, 9: 0, 10: 0, 11: 1, 12: 0, 13: 0}
 
 
 def handed_from(calls, at):
@@ -41,8 +49,22 @@ def answer(graph, number, handed):
         return graph.row(handed[0])
     if number == COMMON:
         return graph.common(handed[0], handed[1])
-    # how_many_handed fails at a number that no call has, so strong (6) is the one that is left
-    return graph.strong()
+    if number == STRONG:
+        return graph.strong()
+    if number == PASS:
+        return passes(handed[0], handed[1], handed[2], handed[3])
+    if number == FAR:
+        return graph.far(handed[0], handed[1])
+    if number == WIDE:
+        return graph.wide()
+    if number == GIRTH:
+        return graph.girth()
+    if number == SWITCH:
+        return graph.switch(handed[0])
+    if number == TURN:
+        return graph.turn()
+    # how_many_handed fails at a number that no call has, so odds (13) is the one that is left
+    return graph.odds()
 
 
 def answers(calls):

@@ -1,33 +1,10 @@
 """A graph of 1 to 64 points, kept as one row of bits for each point."""
 
+from friendgraph.bits import bit_of, bits_set, first_bits, with_bit
+from friendgraph.refusals import NOT_SO, REFUSED
+from friendgraph.steps import most_steps, shortest_ring, steps_between
+
 MOST_POINTS = 64
-
-REFUSED = -1
-NOT_SO = -2
-
-# How many bits are set in each number of four bits: strong counts some thousand rows, too many to go bit by bit.
-BITS_OF_FOUR = (0, 1, 1, 2, 1, 2, 2, 3, 1, 2, 2, 3, 2, 3, 3, 4)
-
-
-def bits_set(row):
-    """How many bits of row are set."""
-    total = 0
-    while row > 0:
-        total = total + BITS_OF_FOUR[row & 15]
-        row = row >> 4
-    return total
-
-
-def bit_of(row, v):
-    """Bit v of row: 0 or 1."""
-    return (row >> v) & 1
-
-
-def with_bit(row, v, on):
-    """The row that is like row, but has bit v set (on 1) or not (on 0)."""
-    if on == 1:
-        return row | (1 << v)
-    return row & ~(1 << v)
 
 
 def is_size(n):
@@ -109,10 +86,49 @@ class Graph:
             return [NOT_SO]
         return [1, n, k, of_neighbours, of_others]
 
+    def far(self, u, v):
+        if not self.has_points(u, v):
+            return [REFUSED]
+        steps = steps_between(self.neighbours, u, v)
+        if steps is None:
+            return [NOT_SO]
+        return [steps]
+
+    def wide(self):
+        steps = most_steps(self.neighbours)
+        if steps is None:
+            return [NOT_SO]
+        return [steps]
+
+    def girth(self):
+        return [shortest_ring(self.neighbours)]
+
+    def switch(self, s):
+        chosen = s & self.all_points()
+        self.neighbours = [self.switched_row(u, chosen) for u in range(len(self.neighbours))]
+        return [0]
+
+    def turn(self):
+        everyone = self.all_points()
+        self.neighbours = [self.neighbours[u] ^ with_bit(everyone, u, 0) for u in range(len(self.neighbours))]
+        return [0]
+
+    def odds(self):
+        total = 0
+        for u in range(len(self.neighbours)):
+            for v in range(u):
+                # only third points below v, so that each three is counted once
+                total = total + bits_set(self.odd_with(u, v) & first_bits(v))
+        return [total]
+
     def has_points(self, u, v):
         """Whether u and v are both points."""
         n = len(self.neighbours)
         return 0 <= u and u < n and 0 <= v and v < n
+
+    def all_points(self):
+        """The row in which every point's bit is set."""
+        return first_bits(len(self.neighbours))
 
     def in_common(self, u, v):
         """How many neighbours the points u and v have in common."""
@@ -140,3 +156,16 @@ class Graph:
                     if found != shared:
                         return None
         return found
+
+    def switched_row(self, u, chosen):
+        """The row of u once the graph is switched about the chosen points, which are told by bits."""
+        if bit_of(chosen, u) == 1:
+            return self.neighbours[u] ^ (self.all_points() & ~chosen)
+        return self.neighbours[u] ^ chosen
+
+    def odd_with(self, u, v):
+        """The row of the points that have, with u and v, one or three edges among them (bits u and v say nothing)."""
+        one_of_both = self.neighbours[u] ^ self.neighbours[v]
+        if bit_of(self.neighbours[u], v) == 1:
+            return self.all_points() & ~one_of_both
+        return one_of_both

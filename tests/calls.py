@@ -7,6 +7,12 @@ HIGHEST = 2147483647
 
 BEGIN = [0]
 STRONG = [6]
+WIDE = [9]
+GIRTH = [10]
+TURN = [12]
+ODDS = [13]
+
+ALL_BITS = 2 ** 64 - 1
 
 
 def size(n):
@@ -27,6 +33,18 @@ def row(u):
 
 def common(u, v):
     return [5, u, v]
+
+
+def pass_of(n, k, l, m):
+    return [7, n, k, l, m]
+
+
+def far(u, v):
+    return [8, u, v]
+
+
+def switch(s):
+    return [11, s]
 
 
 def every_row(n):
@@ -58,6 +76,17 @@ def ask(*calls):
     return parts[1:]
 
 
+def ask_of_each(graphs, *calls):
+    """For each graph of a list: the answers to these calls on it, one list for each call."""
+    told = []
+    for numbers in graphs:
+        parts = ask(rows(numbers), *calls)
+        if parts[0] != [0]:
+            raise AssertionError(f"rows of a graph were refused: {numbers}")
+        told.append(parts[1:])
+    return told
+
+
 def rows_where(n, joined):
     """The rows of the graph of n points in which u and v are neighbours if joined(u, v)."""
     return [sum(1 << v for v in range(n) if v != u and joined(u, v)) for u in range(n)]
@@ -75,8 +104,45 @@ def cycle(n):
     return rows_where(n, lambda u, v: (u - v) % n in (1, n - 1))
 
 
+def path(n):
+    return rows_where(n, lambda u, v: abs(u - v) == 1)
+
+
+def two_sides(n):
+    """Every even point is joined to every odd one."""
+    return rows_where(n, lambda u, v: u % 2 != v % 2)
+
+
 def complete(n):
     return rows_where(n, lambda u, v: True)
+
+
+def from_edges(n, edges):
+    """The rows of the graph of n points with these edges, each of them two points."""
+    return rows_where(n, lambda u, v: (u, v) in edges or (v, u) in edges)
+
+
+def graphs_of(n):
+    """Every graph of n points, as rows."""
+    pairs = [(u, v) for u in range(n) for v in range(u)]
+    for chosen in range(1 << len(pairs)):
+        yield from_edges(n, {pair for k, pair in enumerate(pairs) if chosen >> k & 1})
+
+
+def scattered(n, seed, share):
+    """A graph of n points in which about share of 64 pairs are neighbours, the same one whenever it is asked for."""
+    state = seed
+    edges = set()
+    for u in range(n):
+        for v in range(u):
+            state = (state * 6364136223846793005 + 1442695040888963407) % 2 ** 64
+            if state >> 58 < share:
+                edges.add((u, v))
+    return from_edges(n, edges)
+
+
+def neighbours_of(numbers):
+    return [{v for v in range(len(numbers)) if number >> v & 1} for number in numbers]
 
 
 def rook(side):

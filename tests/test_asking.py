@@ -3,12 +3,8 @@
 import unittest
 
 from tests.calls import BEGIN, HIGHEST, LOWEST, STRONG
-from tests.calls import all_but_matching, ask, common, complete, cycle, edge, every_row, matching, paley, petersen
-from tests.calls import rook, row, rows, rows_where, size
-
-
-def neighbours_of(numbers):
-    return [{v for v in range(len(numbers)) if number >> v & 1} for number in numbers]
+from tests.calls import all_but_matching, ask, common, complete, cycle, edge, every_row, graphs_of, matching
+from tests.calls import neighbours_of, paley, petersen, rook, row, rows, rows_where, size
 
 
 def strong_by_words(numbers):
@@ -21,14 +17,6 @@ def strong_by_words(numbers):
     if len(degrees) != 1 or not 1 <= min(degrees) <= n - 2 or len(of_neighbours) != 1 or len(of_others) != 1:
         return [-2]
     return [1, n, min(degrees), min(of_neighbours), min(of_others)]
-
-
-def graphs_of(n):
-    """Every graph of n points, as rows."""
-    pairs = [(u, v) for u in range(n) for v in range(u)]
-    for edges in range(1 << len(pairs)):
-        chosen = {pair for k, pair in enumerate(pairs) if edges >> k & 1}
-        yield rows_where(n, lambda u, v: (max(u, v), min(u, v)) in chosen)
 
 
 class Row(unittest.TestCase):
